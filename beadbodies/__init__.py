@@ -1,0 +1,1 @@
+"""Beadhall: bodies. The calls stand in beadbodies.bodies."""
