@@ -1,11 +1,17 @@
 """The calls, each answering one list: a number; how many bytes, and they; how many numbers, and they."""
 
-from beadbodies.meshes import MeshFault, first_odd_side, measures, read_mesh
+from beadbodies.meshes import GREATEST_TURN, MeshFault
+from beadbodies.meshes import first_odd_side, measures, put_together, read_mesh, text_of, turned_mesh
+from beadbodies.rays import GREATEST_LOOK, centre_of, lies_inside
 
 MOST_BYTES = 16384
+GREATEST_PITCH = 8192
+GREATEST_SIDE = 12
 
+OUT_OF_RANGE = -1
 TOO_LONG = -2
 NONE_SUCH = -6
+UNFIT = -9
 
 
 def answer(number, told, numbers):
@@ -16,6 +22,23 @@ def answer(number, told, numbers):
 def refusal(number):
     """A refusal with which nothing is told."""
     return answer(number, [], [])
+
+
+def telling(told):
+    """The answer of a call that tells bytes."""
+    return answer(len(told), told, [])
+
+
+def is_pitch(c):
+    return 1 <= c <= GREATEST_PITCH
+
+
+def mesh_of(t):
+    """The mesh of that text, None if it is none's."""
+    try:
+        return read_mesh(t)
+    except MeshFault:
+        return None
 
 
 def judge(t):
@@ -33,9 +56,8 @@ def size(t):
     """How many corners and triangles the mesh has, and how far its corners reach."""
     if len(t) > MOST_BYTES:
         return refusal(TOO_LONG)
-    try:
-        mesh = read_mesh(t)
-    except MeshFault:
+    mesh = mesh_of(t)
+    if mesh is None:
         return refusal(NONE_SUCH)
     return answer(0, [], measures(mesh))
 
@@ -44,11 +66,50 @@ def open_side(t):
     """Whether the mesh is closed, or else the first side that is of an odd number of triangles."""
     if len(t) > MOST_BYTES:
         return refusal(TOO_LONG)
-    try:
-        mesh = read_mesh(t)
-    except MeshFault:
+    mesh = mesh_of(t)
+    if mesh is None:
         return refusal(NONE_SUCH)
     side = first_odd_side(mesh)
     if side is None:
         return answer(0, [], [])
     return answer(1, [], list(side))
+
+
+def both(t, s):
+    """The text of the two meshes put together."""
+    if len(t) > MOST_BYTES or len(s) > MOST_BYTES:
+        return refusal(TOO_LONG)
+    first = mesh_of(t)
+    second = mesh_of(s)
+    if first is None or second is None:
+        return refusal(NONE_SUCH)
+    mesh = put_together(first, second)
+    if mesh is None:
+        return refusal(UNFIT)
+    return telling(text_of(mesh))
+
+
+def turned(k, t):
+    """The text of the mesh turned by k."""
+    if len(t) > MOST_BYTES:
+        return refusal(TOO_LONG)
+    mesh = mesh_of(t)
+    if mesh is None:
+        return refusal(NONE_SUCH)
+    if k > GREATEST_TURN:
+        return refusal(OUT_OF_RANGE)
+    return telling(text_of(turned_mesh(mesh, k)))
+
+
+def inside(c, x, y, z, look, t):
+    """Whether the centre of cell (x, y, z) of pitch c lies inside the mesh, seen by that look."""
+    if len(t) > MOST_BYTES:
+        return refusal(TOO_LONG)
+    mesh = mesh_of(t)
+    if mesh is None:
+        return refusal(NONE_SUCH)
+    if first_odd_side(mesh) is not None:
+        return refusal(UNFIT)
+    if not is_pitch(c) or look > GREATEST_LOOK or max(x, y, z) >= GREATEST_SIDE:
+        return refusal(OUT_OF_RANGE)
+    return answer(lies_inside(mesh, centre_of(c, x, y, z), look), [], [])

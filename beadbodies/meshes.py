@@ -1,8 +1,13 @@
-"""Meshes: how their texts are read, how far they reach, whether they close."""
+"""Meshes: their texts, how far they reach, whether they close, how they are put together and turned."""
 
 MOST_CORNERS = 64
 MOST_TRIANGLES = 128
 GREATEST_COORDINATE = 65535
+GREATEST_TURN = 23
+
+# How often a mesh is turned about x, and about y, by k // 4.
+TURNS_ABOUT_X = (0, 1, 2, 3, 0, 0)
+TURNS_ABOUT_Y = (0, 0, 0, 0, 1, 3)
 
 LINE_END = 10
 BLANK = 32
@@ -146,3 +151,57 @@ def first_odd_side(mesh):
         for side in sides(triangle):
             counts[side] = counts.get(side, 0) + 1
     return min([side for side in counts if counts[side] % 2 == 1], default=None)
+
+
+def line_of(letter, numbers):
+    """A line of a mesh's text."""
+    return " ".join([letter] + [str(number) for number in numbers]) + "\n"
+
+
+def text_of(mesh):
+    """The bytes of the mesh's text."""
+    lines = [line_of("v", corner) for corner in mesh.corners]
+    lines.extend([line_of("t", triangle) for triangle in mesh.triangles])
+    return [ord(sign) for sign in "".join(lines)]
+
+
+def raised(triangle, by):
+    """The triangle with its corners' numbers raised."""
+    return tuple([corner + by for corner in triangle])
+
+
+def put_together(first, second):
+    """One mesh of the two; None if it has more corners or triangles than a mesh may have."""
+    corners = first.corners + second.corners
+    triangles = first.triangles + [raised(triangle, len(first.corners)) for triangle in second.triangles]
+    if len(corners) > MOST_CORNERS or len(triangles) > MOST_TRIANGLES:
+        return None
+    return Mesh(corners, triangles)
+
+
+def turned_about_x(corner):
+    return (corner[0], GREATEST_COORDINATE - corner[2], corner[1])
+
+
+def turned_about_y(corner):
+    return (corner[2], corner[1], GREATEST_COORDINATE - corner[0])
+
+
+def turned_about_z(corner):
+    return (GREATEST_COORDINATE - corner[1], corner[0], corner[2])
+
+
+def turned_corner(corner, k):
+    """Where the corner goes when the mesh is turned by k."""
+    for turn in range(TURNS_ABOUT_X[k // 4]):
+        corner = turned_about_x(corner)
+    for turn in range(TURNS_ABOUT_Y[k // 4]):
+        corner = turned_about_y(corner)
+    for turn in range(k % 4):
+        corner = turned_about_z(corner)
+    return corner
+
+
+def turned_mesh(mesh, k):
+    """The mesh turned by k, from 0 to GREATEST_TURN."""
+    return Mesh([turned_corner(corner, k) for corner in mesh.corners], mesh.triangles)

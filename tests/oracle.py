@@ -1,7 +1,8 @@
-"""What the tests share: texts of meshes, and where a text is at fault, found by trying what could follow.
+"""What the tests share: meshes and their texts, and what is to be answered, found in another way than the program's.
 
-The faults are found in another way than the program's: a beginning of a text is good if some whole line
-begins like its last, unfinished one. For a triangle's line all lines there are get written out.
+Faults: a beginning of a text is good if some whole line begins like its last, unfinished one. For a triangle's line
+all lines there are get written out.
+Inside: the centre is truly shifted, by an e that is small enough, and the ray may go any way.
 """
 
 import functools
@@ -13,7 +14,24 @@ CORNER_LINE = re.compile(f"v {NUMBER} {NUMBER} {NUMBER}\n")
 # Whatever digits of a coordinate are good are a coordinate themselves, so these tails are enough.
 CORNER_TAILS = ["v 0 0 0\n", " 0 0 0\n", "0 0 0\n", " 0 0\n", "0 0\n", " 0\n", "0\n", "\n"]
 
+GREATEST = 18446744073709551615
+TOO_LONG = [-2, 0, 0]
+NONE_SUCH = [-6, 0, 0]
+OUT_OF_RANGE = [-1, 0, 0]
+UNFIT = [-9, 0, 0]
+
+TEXTS_AT_FAULT = ["x", "v 1 2 3", "v 1 2 65536\n", "t 0 1 2\n", "v 1 2 3\n" * 65, "\n", "v 1 2 3\n" * 2048]
+
 TETRAHEDRON = [(0, 1, 2), (0, 1, 3), (0, 2, 3), (1, 2, 3)]
+# Corner k of a box has its greater x if k & 1, its greater y if k & 2, its greater z if k & 4.
+BOX_FACES = [(0, 1, 3, 2), (4, 5, 7, 6), (0, 1, 5, 4), (2, 3, 7, 6), (0, 2, 6, 4), (1, 3, 7, 5)]
+BOX_TRIANGLES = [three for a, b, c, d in BOX_FACES for three in ((a, b, c), (a, c, d))]
+
+# All lengths are taken so often that even the shift in z is a whole number.
+E_PARTS = 10 ** 24
+SCALE = 2 * E_PARTS ** 3
+# No side of a mesh goes any of these ways: they are longer than its corners reach.
+RAY_WAYS = [(1000003, 999983, 65537), (-1000003, 65537, 999983), (65539, -999983, -1000003), (-99991, -99989, 65543)]
 
 
 def signs(text):
@@ -85,3 +103,100 @@ def fault_place(text):
         if not begins_mesh(text[:place + 1]):
             return place
     return len(text)
+
+
+class Guarded(list):
+    """A list that may not be changed, not for a while either."""
+
+    def refuse(self, *given):
+        raise AssertionError("changed")
+
+    __setitem__ = __delitem__ = __iadd__ = __imul__ = refuse
+    append = extend = insert = pop = remove = clear = sort = reverse = refuse
+
+
+def mesh_signs(mesh):
+    return signs(mesh_text(*mesh))
+
+
+def told_bytes(answer):
+    """The bytes that an answer tells, its form looked at on the way."""
+    if [type(number) for number in answer] != [int] * len(answer):
+        raise AssertionError("not whole numbers alone")
+    count = answer[0]
+    if len(answer) != count + 3 or answer[1] != count or answer[-1] != 0:
+        raise AssertionError(answer)
+    return answer[2:-1]
+
+
+def told_mesh(answer):
+    """The corners and triangles that an answer's text tells."""
+    text = bytes(told_bytes(answer)).decode("latin-1")
+    if not is_mesh(text):
+        raise AssertionError(text)
+    lines = [line.split(" ") for line in text.splitlines()]
+    return tuple([tuple(int(number) for number in line[1:]) for line in lines if line[0] == letter]
+                 for letter in "vt")
+
+
+def box(low, high):
+    ends = (low, high)
+    return ([tuple(ends[k >> axis & 1][axis] for axis in range(3)) for k in range(8)], list(BOX_TRIANGLES))
+
+
+def tetrahedron(*corners):
+    return (list(corners), list(TETRAHEDRON))
+
+
+def together(first, second):
+    by = len(first[0])
+    return (first[0] + second[0], first[1] + [tuple(k + by for k in three) for three in second[1]])
+
+
+def random_closed(chance, most, count, bodies):
+    """Tetrahedrons over shared corners, so that sides and whole triangles are of several of them."""
+    corners = [tuple(chance.randrange(most + 1) for axis in range(3)) for corner in range(count)]
+    triangles = []
+    for body in range(bodies):
+        chosen = chance.sample(range(count), 4)
+        triangles += [tuple(chance.sample([chosen[k] for k in three], 3)) for three in TETRAHEDRON]
+    chance.shuffle(triangles)
+    return (corners, triangles)
+
+
+def shifted_centre(c, x, y, z):
+    half = SCALE // 2
+    return ((2 * x + 1) * c * half + 2 * E_PARTS ** 2, (2 * y + 1) * c * half + 2 * E_PARTS,
+            (2 * z + 1) * c * half + 2)
+
+
+def less(a, b):
+    return tuple(m - n for m, n in zip(a, b))
+
+
+def dot(a, b):
+    return sum(m * n for m, n in zip(a, b))
+
+
+def cross(a, b):
+    return (a[1] * b[2] - a[2] * b[1], a[2] * b[0] - a[0] * b[2], a[0] * b[1] - a[1] * b[0])
+
+
+def is_hit(a, b, c, p, way):
+    """Whether the ray from p goes through the triangle; p is never on it, nor the ray on a side."""
+    normal = cross(less(b, a), less(c, a))
+    if normal == (0, 0, 0):
+        return False
+    a, b, c = less(a, p), less(b, p), less(c, p)
+    turns = [dot(way, cross(m, n)) for m, n in ((a, b), (b, c), (c, a))]
+    if 0 in turns or dot(normal, a) == 0:
+        raise AssertionError("not generic")
+    if min(turns) < 0 < max(turns):
+        return False
+    return (dot(normal, a) > 0) == (dot(normal, way) > 0)
+
+
+def is_inside(mesh, c, x, y, z, way=RAY_WAYS[0]):
+    p = shifted_centre(c, x, y, z)
+    corners = [tuple(number * SCALE for number in corner) for corner in mesh[0]]
+    return sum(is_hit(*[corners[k] for k in three], p, way) for three in mesh[1]) % 2

@@ -2,13 +2,35 @@
 
 import unittest
 
-from beadbodies.bodies import judge, open_side, size
-from tests.oracle import TETRAHEDRON, corner_lines, mesh_text, signs
+from beadbodies.bodies import both, inside, judge, open_side, size, turned
+from tests.oracle import (GREATEST, TETRAHEDRON, TEXTS_AT_FAULT, Guarded, box, corner_lines, mesh_signs, mesh_text,
+                          signs)
 
 TEXT_CALLS = (judge, size, open_side)
 
-TEXTS = ["", "v 1 2 3\n", corner_lines(4) + mesh_text([], TETRAHEDRON), corner_lines(4) + "t 1 2 3\n",
-         "x", "v 1 2 65536\n", corner_lines(64), corner_lines(65), "v 1 2 3\n" * 2048, "v 1 2 3\n" * 2049]
+BOX = mesh_signs(box((0, 0, 0), (9, 9, 9)))
+HOLED = corner_lines(4) + "t 1 2 3\n"
+TEXTS = [signs(text) for text in ["", "v 1 2 3\n", corner_lines(4) + mesh_text([], TETRAHEDRON), HOLED,
+                                  corner_lines(64), "v 1 2 3\n" * 2049] + TEXTS_AT_FAULT] + [BOX]
+# The kinds of answers there are, of a call that takes two of them.
+FEW_TEXTS = TEXTS[:6] + TEXTS[-2:]
+
+
+def samples():
+    """Calls, and what is handed to each: all kinds of answers and of refusals."""
+    found = [(call, (text,)) for call in TEXT_CALLS for text in TEXTS]
+    found += [(both, (text, other)) for text in FEW_TEXTS for other in FEW_TEXTS]
+    found += [(turned, (k, text)) for k in (0, 1, 23, 24, GREATEST) for text in TEXTS]
+    for numbers in ((2, 0, 0, 0, 0), (2, 11, 0, 0, 5), (0, 0, 0, 0, 0), (1, 12, 0, 0, 0), (GREATEST,) * 5):
+        found += [(inside, numbers + (text,)) for text in TEXTS]
+    return found
+
+
+SAMPLES = samples()
+
+
+def copied(handed):
+    return tuple(list(value) if isinstance(value, list) else value for value in handed)
 
 
 class TooLong(unittest.TestCase):
@@ -36,62 +58,58 @@ class TooLong(unittest.TestCase):
 
 class Answers(unittest.TestCase):
     def test_lists_of_plain_whole_numbers(self):
-        for text in TEXTS:
-            for call in TEXT_CALLS:
-                answer = call(signs(text))
-                self.assertIs(type(answer), list)
-                self.assertEqual({type(number) for number in answer}, {int})
+        for call, handed in SAMPLES:
+            answer = call(*handed)
+            self.assertIs(type(answer), list)
+            self.assertEqual({type(number) for number in answer}, {int})
 
     def test_counts_fit_what_is_told(self):
-        for text in TEXTS:
-            for call in TEXT_CALLS:
-                answer = call(signs(text))
-                self.assertEqual(answer[1], 0)
-                self.assertEqual(answer[2], len(answer) - 3)
+        for call, handed in SAMPLES:
+            answer = call(*handed)
+            told = answer[1]
+            self.assertEqual(answer[2 + told], len(answer) - 3 - told)
+            if told > 0:
+                self.assertEqual((answer[0], answer[-1]), (told, 0))
+                self.assertTrue(all(0 <= byte <= 255 for byte in answer[2:-1]))
 
     def test_places_are_told_by_judge_alone(self):
-        for text in ("x", "v 1 2 3", "v 1 2 65536\n", corner_lines(65), corner_lines(2) + "t 0 1 2\n"):
-            self.assertEqual(judge(signs(text))[:3], [-6, 0, 1])
-            self.assertEqual(size(signs(text)), [-6, 0, 0])
-            self.assertEqual(open_side(signs(text)), [-6, 0, 0])
+        for call, handed in SAMPLES:
+            answer = call(*handed)
+            if answer[0] < 0:
+                self.assertEqual(answer[1:2], [0])
+                tells = call == judge and answer[0] == -6
+                self.assertEqual(len(answer), 4 if tells else 3, call)
 
 
 class NothingKept(unittest.TestCase):
     def test_what_is_handed_in_stays_as_it_was(self):
-        for text in TEXTS:
-            for call in TEXT_CALLS:
-                handed = signs(text)
-                call(handed)
-                self.assertEqual(handed, signs(text))
+        for call, handed in SAMPLES:
+            kept = copied(handed)
+            call(*handed)
+            self.assertEqual(handed, kept)
 
     def test_a_second_call_answers_as_the_first(self):
-        for call in TEXT_CALLS:
-            first = [call(signs(text)) for text in TEXTS]
-            again = [call(signs(text)) for text in reversed(TEXTS)]
-            self.assertEqual(first, list(reversed(again)))
+        first = [call(*handed) for call, handed in SAMPLES]
+        again = [call(*handed) for call, handed in reversed(SAMPLES)]
+        self.assertEqual(first, list(reversed(again)))
 
     def test_an_answer_is_the_callers_own(self):
-        for text in TEXTS:
-            for call in TEXT_CALLS:
-                handed = signs(text)
-                answer = call(handed)
-                kept = list(answer)
-                answer.append(7)
-                answer[0] = 99
-                self.assertEqual(call(handed), kept)
-                self.assertEqual(handed, signs(text))
+        for call, handed in SAMPLES:
+            own = copied(handed)
+            answer = call(*own)
+            kept = list(answer)
+            answer.append(7)
+            answer[0] = 99
+            self.assertEqual(own, handed)
+            self.assertEqual(call(*own), kept)
 
     def test_what_is_handed_in_is_not_changed_for_a_while_either(self):
-        class Guarded(list):
-            def refuse(self, *given):
-                raise AssertionError("changed")
+        for call, handed in SAMPLES:
+            guarded = tuple(Guarded(value) if isinstance(value, list) else value for value in handed)
+            self.assertEqual(call(*guarded), call(*handed))
 
-            __setitem__ = __delitem__ = __iadd__ = __imul__ = refuse
-            append = extend = insert = pop = remove = clear = sort = reverse = refuse
-
-        for text in TEXTS:
-            for call in TEXT_CALLS:
-                self.assertEqual(call(Guarded(signs(text))), call(signs(text)))
+    def test_one_list_may_be_handed_in_twice(self):
+        self.assertEqual(both(BOX, BOX), both(list(BOX), list(BOX)))
 
 
 if __name__ == "__main__":

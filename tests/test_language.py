@@ -36,6 +36,13 @@ USED_NODES = (
     ast.cmpop, ast.operator)
 
 
+# What is walked on the spot, and what may walk it beside a loop.
+WALKED = {"range", "zip", "enumerate", "reversed", "items", "keys", "values"}
+WALKERS = {"list", "tuple", "dict", "sorted", "sum", "any", "all", "enumerate", "zip", "min", "max"}
+
+PYTHONS_OWN = {name for kind in (str, int, list, tuple, dict, set, bytes) for name in dir(kind)}
+
+
 def package_files():
     return sorted(path for path in PACKAGE.rglob("*") if path.is_file() and path.suffix != ".pyc")
 
@@ -58,6 +65,27 @@ def bound_names(tree):
 def own_methods(trees):
     classes = [node for tree in trees for node in ast.walk(tree) if isinstance(node, ast.ClassDef)]
     return {part.name for found in classes for part in found.body if isinstance(part, ast.FunctionDef)}
+
+
+def own_values(trees):
+    nodes = [node for tree in trees for node in ast.walk(tree)]
+    return {node.attr for node in nodes if isinstance(node, ast.Attribute) and isinstance(node.ctx, ast.Store)}
+
+
+def called_name(node):
+    """The name or method that a call calls, None of anything else."""
+    if not isinstance(node, ast.Call):
+        return None
+    return node.func.attr if isinstance(node.func, ast.Attribute) else getattr(node.func, "id", None)
+
+
+def walked_places(tree):
+    """The nodes that stand where something is walked on the spot."""
+    for node in ast.walk(tree):
+        if isinstance(node, (ast.For, ast.comprehension)):
+            yield node.iter
+        elif called_name(node) in WALKERS:
+            yield from node.args
 
 
 class Language(unittest.TestCase):
@@ -153,6 +181,61 @@ class Language(unittest.TestCase):
             tops += [part.targets[0].id for part in tree.body if isinstance(part, ast.Assign)]
             tops += [one.name for part in tree.body if isinstance(part, ast.ImportFrom) for one in part.names]
             self.assertEqual(sorted(tops), sorted(set(tops)), name)
+
+    def test_no_local_is_called_like_an_import_or_a_class(self):
+        for name, tree in self.trees.items():
+            taken = {one.name for part in tree.body if isinstance(part, ast.ImportFrom) for one in part.names}
+            taken |= {part.name for part in tree.body if isinstance(part, ast.ClassDef)}
+            for node in ast.walk(tree):
+                local = node.arg if isinstance(node, ast.arg) else getattr(node, "id", None)
+                if isinstance(node, ast.arg) or isinstance(getattr(node, "ctx", None), ast.Store):
+                    self.assertNotIn(local, taken, f"{name}:{node.lineno}")
+
+    def test_imports_come_from_the_file_that_defines_the_name_and_never_in_a_ring(self):
+        drawn = {}
+        for name, tree in self.trees.items():
+            imports = [part for part in tree.body if isinstance(part, ast.ImportFrom)]
+            drawn[name] = {part.module.split(".")[1] + ".py" for part in imports}
+            for part in imports:
+                defined = {bound for bound, row in bound_names(self.trees[part.module.split(".")[1] + ".py"])}
+                self.assertLessEqual({one.name for one in part.names}, defined, name)
+                self.assertEqual({one.asname for one in part.names}, {None}, name)
+        while drawn:
+            free = [name for name in drawn if not drawn[name] & set(drawn)]
+            self.assertTrue(free, drawn)
+            drawn = {name: drawn[name] for name in drawn if name not in free}
+
+    def test_no_annotations(self):
+        for where, node in self.each_node():
+            if isinstance(node, (ast.FunctionDef, ast.arg)):
+                self.assertIsNone(getattr(node, "returns", None), where)
+                self.assertIsNone(getattr(node, "annotation", None), where)
+
+    def test_methods_and_values_of_objects(self):
+        methods = own_methods(self.trees.values()) - UNDERSCORED
+        values = own_values(self.trees.values())
+        self.assertEqual(methods & values, set())
+        self.assertEqual((methods | values) & PYTHONS_OWN, set())
+
+    def test_walked_on_the_spot(self):
+        for name, tree in self.trees.items():
+            places = list(walked_places(tree))
+            for node in ast.walk(tree):
+                if called_name(node) in WALKED:
+                    self.assertIn(node, places, f"{name}:{node.lineno}")
+
+    def test_own_errors_alone_are_taken(self):
+        own = {node.name for where, node in self.each_node() if isinstance(node, ast.ClassDef)}
+        for where, node in self.each_node():
+            if isinstance(node, ast.ExceptHandler):
+                self.assertIn(node.type.id, own, where)
+
+    def test_nothing_but_plain_values_at_a_files_top(self):
+        for name, tree in self.trees.items():
+            for part in tree.body[1:]:
+                self.assertIsInstance(part, (ast.ImportFrom, ast.FunctionDef, ast.ClassDef, ast.Assign), name)
+                if isinstance(part, ast.Assign):
+                    ast.literal_eval(part.value)
 
 
 if __name__ == "__main__":
