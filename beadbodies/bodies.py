@@ -2,11 +2,12 @@
 
 from beadbodies.meshes import GREATEST_TURN, MeshFault
 from beadbodies.meshes import first_odd_side, measures, put_together, read_mesh, text_of, turned_mesh
-from beadbodies.rays import GREATEST_LOOK, centre_of, lies_inside
+from beadbodies.rays import GREATEST_LOOK, centre_of, lies_inside, marks_inside
+from beadbodies.regions import piece_count
+from beadbodies.solids import GREATEST_SIDE, Body, BodyFault, Grid, bytes_of, is_side, read_body
 
 MOST_BYTES = 16384
 GREATEST_PITCH = 8192
-GREATEST_SIDE = 12
 
 OUT_OF_RANGE = -1
 TOO_LONG = -2
@@ -38,6 +39,14 @@ def mesh_of(t):
     try:
         return read_mesh(t)
     except MeshFault:
+        return None
+
+
+def body_of(b):
+    """The body of those bytes, None if they are none's."""
+    try:
+        return read_body(b)
+    except BodyFault:
         return None
 
 
@@ -113,3 +122,40 @@ def inside(c, x, y, z, look, t):
     if not is_pitch(c) or look > GREATEST_LOOK or max(x, y, z) >= GREATEST_SIDE:
         return refusal(OUT_OF_RANGE)
     return answer(lies_inside(mesh, centre_of(c, x, y, z), look), [], [])
+
+
+def cells(c, wide, deep, high, t):
+    """The bytes of the body of the cells of pitch c whose centres lie inside the mesh."""
+    if len(t) > MOST_BYTES:
+        return refusal(TOO_LONG)
+    mesh = mesh_of(t)
+    if mesh is None:
+        return refusal(NONE_SUCH)
+    if first_odd_side(mesh) is not None:
+        return refusal(UNFIT)
+    if not is_pitch(c) or not all([is_side(side) for side in (wide, deep, high)]):
+        return refusal(OUT_OF_RANGE)
+    grid = Grid(wide, deep, high)
+    return telling(bytes_of(Body(grid, marks_inside(mesh, c, grid))))
+
+
+def bodyjudge(b):
+    """Whether b is a body's bytes, or the kind and the place of their fault."""
+    if len(b) > MOST_BYTES:
+        return refusal(TOO_LONG)
+    try:
+        read_body(b)
+    except BodyFault as fault:
+        return answer(NONE_SUCH, [], [fault.kind, fault.place])
+    return answer(0, [], [])
+
+
+def bodysize(b):
+    """How wide, deep and high the body's grid is, how many cells and pieces it has."""
+    if len(b) > MOST_BYTES:
+        return refusal(TOO_LONG)
+    body = body_of(b)
+    if body is None:
+        return refusal(NONE_SUCH)
+    grid = body.grid
+    return answer(0, [], [grid.wide, grid.deep, grid.high, sum(body.marks), piece_count(body)])

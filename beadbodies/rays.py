@@ -88,3 +88,19 @@ def meets_odd(crossed, p, look):
 def lies_inside(mesh, p, look):
     """1 if the shifted p lies inside the closed mesh, 0 if not."""
     return meets_odd(crossed_triangles(doubled_triangles(mesh), p, look), p, look)
+
+
+def numbered_centre(c, grid, number):
+    """The centre of the cell of that number, doubled."""
+    place = grid.cell_place(number)
+    return centre_of(c, place[0], place[1], place[2])
+
+
+def marks_inside(mesh, c, grid):
+    """Of each cell by its number 1 if its centre lies inside the closed mesh, 0 if not."""
+    triangles = doubled_triangles(mesh)
+    # The line up through a column of cells is the same in all layers, so the lowest one's are asked alone.
+    columns = [crossed_triangles(triangles, numbered_centre(c, grid, number), UP)
+               for number in range(grid.wide * grid.deep)]
+    return [meets_odd(columns[number % len(columns)], numbered_centre(c, grid, number), UP)
+            for number in range(grid.cell_count())]

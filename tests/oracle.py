@@ -3,6 +3,7 @@
 Faults: a beginning of a text is good if some whole line begins like its last, unfinished one. For a triangle's line
 all lines there are get written out.
 Inside: the centre is truly shifted, by an e that is small enough, and the ray may go any way.
+Bodies: a grid's three numbers and a set of cells (x, y, z); the bits are one long number.
 """
 
 import functools
@@ -200,3 +201,69 @@ def is_inside(mesh, c, x, y, z, way=RAY_WAYS[0]):
     p = shifted_centre(c, x, y, z)
     corners = [tuple(number * SCALE for number in corner) for corner in mesh[0]]
     return sum(is_hit(*[corners[k] for k in three], p, way) for three in mesh[1]) % 2
+
+
+def all_cells(grid):
+    """All cells of a grid by their numbers."""
+    return [(x, y, z) for z in range(grid[2]) for y in range(grid[1]) for x in range(grid[0])]
+
+
+def body_signs(grid, cells):
+    bits = sum(1 << number for number, cell in enumerate(all_cells(grid)) if cell in cells)
+    count = grid[0] * grid[1] * grid[2]
+    return [0x42, 0x44, 0x42, 0x31, *grid, *bits.to_bytes(-(-count // 8), "little")]
+
+
+def read_signs(b):
+    """The grid and the cells of a body's bytes."""
+    grid = tuple(b[4:7])
+    bits = int.from_bytes(bytes(b[7:]), "little")
+    return grid, {cell for number, cell in enumerate(all_cells(grid)) if bits >> number & 1}
+
+
+def body_fault(b):
+    """Kind and place of the first fault, None of a body's bytes."""
+    if bytes(b[:4]) != b"BDB1" or len(b) < 7:
+        return [1, 0]
+    for place in (4, 5, 6):
+        if b[place] == 0 or b[place] > 12:
+            return [2, place]
+    if body_signs(*read_signs(b)) == list(b):
+        return None
+    count = b[4] * b[5] * b[6]
+    return [3, len(b) - 1] if count <= 8 * (len(b) - 7) < count + 8 else [1, 4]
+
+
+def told_body(answer):
+    """The grid and the cells of the body that an answer tells."""
+    b = told_bytes(answer)
+    if body_fault(b) is not None:
+        raise AssertionError(b)
+    return read_signs(b)
+
+
+def are_neighbours(cell, other):
+    return sum(abs(m - n) for m, n in zip(cell, other)) == 1
+
+
+def joined(cells):
+    """The pieces of cells, the one with the least cell first."""
+    pieces = []
+    for cell in sorted(cells, key=lambda cell: cell[::-1]):
+        near = [piece for piece in pieces if any(are_neighbours(cell, other) for other in piece)]
+        pieces = [piece for piece in pieces if piece not in near] + [{cell}.union(*near)]
+    return sorted(pieces, key=lambda piece: min(cell[::-1] for cell in piece))
+
+
+def random_cells(chance, grid, share):
+    return {cell for cell in all_cells(grid) if chance.random() < share}
+
+
+GRIDS = [(1, 1, 1), (12, 1, 1), (1, 12, 1), (1, 1, 12), (2, 3, 4), (4, 2, 3), (5, 5, 1), (3, 3, 3), (7, 1, 9), (8, 2, 1),
+         (5, 6, 7), (12, 11, 10), (12, 12, 12)]
+
+# Bytes that are no body's, each kind of fault among them.
+BYTES_AT_FAULT = [[], [0], [66, 68, 66, 49, 1, 1], [66, 68, 66, 50, 1, 1, 1, 1], [66, 68, 66, 49, 0, 1, 1, 1],
+                  [66, 68, 66, 49, 1, 13, 1, 1], [66, 68, 66, 49, 1, 1, 0, 1], [66, 68, 66, 49, 1, 1, 1],
+                  [66, 68, 66, 49, 1, 1, 1, 1, 0], [66, 68, 66, 49, 1, 1, 1, 2], [66, 68, 66, 49, 3, 3, 3] + [255] * 4,
+                  [66, 68, 66, 49, 12, 12, 12] + [0] * (16384 - 7)]

@@ -2,11 +2,14 @@
 
 import unittest
 
-from beadbodies.bodies import both, inside, judge, open_side, size, turned
-from tests.oracle import (GREATEST, TETRAHEDRON, TEXTS_AT_FAULT, Guarded, box, corner_lines, mesh_signs, mesh_text,
-                          signs)
+from beadbodies.bodies import bodyjudge, bodysize, both, cells, inside, judge, open_side, size, turned
+from tests.oracle import (BYTES_AT_FAULT, GREATEST, TETRAHEDRON, TEXTS_AT_FAULT, Guarded, all_cells, body_signs, box,
+                          corner_lines, mesh_signs, mesh_text, signs)
 
 TEXT_CALLS = (judge, size, open_side)
+BODY_CALLS = (bodyjudge, bodysize)
+# How many numbers a refusal tells, of the calls where it tells some.
+TOLD_WITH = {(judge, -6): 1, (bodyjudge, -6): 2}
 
 BOX = mesh_signs(box((0, 0, 0), (9, 9, 9)))
 HOLED = corner_lines(4) + "t 1 2 3\n"
@@ -14,6 +17,10 @@ TEXTS = [signs(text) for text in ["", "v 1 2 3\n", corner_lines(4) + mesh_text([
                                   corner_lines(64), "v 1 2 3\n" * 2049] + TEXTS_AT_FAULT] + [BOX]
 # The kinds of answers there are, of a call that takes two of them.
 FEW_TEXTS = TEXTS[:6] + TEXTS[-2:]
+
+ODD_BODY = body_signs((3, 4, 5), {cell for cell in all_cells((3, 4, 5)) if sum(cell) % 3 > 0})
+BODIES = [body_signs((1, 1, 1), set()), body_signs((2, 2, 2), {(0, 0, 0), (1, 1, 1)}), ODD_BODY,
+          body_signs((12, 12, 12), set(all_cells((12, 12, 12)))), [0] * 16385] + BYTES_AT_FAULT
 
 
 def samples():
@@ -23,6 +30,9 @@ def samples():
     found += [(turned, (k, text)) for k in (0, 1, 23, 24, GREATEST) for text in TEXTS]
     for numbers in ((2, 0, 0, 0, 0), (2, 11, 0, 0, 5), (0, 0, 0, 0, 0), (1, 12, 0, 0, 0), (GREATEST,) * 5):
         found += [(inside, numbers + (text,)) for text in TEXTS]
+    for numbers in ((2, 2, 3, 4), (1, 1, 1, 1), (0, 1, 1, 1), (1, 13, 1, 1), (GREATEST,) * 4):
+        found += [(cells, numbers + (text,)) for text in TEXTS]
+    found += [(call, (b,)) for call in BODY_CALLS for b in BODIES]
     return found
 
 
@@ -72,13 +82,11 @@ class Answers(unittest.TestCase):
                 self.assertEqual((answer[0], answer[-1]), (told, 0))
                 self.assertTrue(all(0 <= byte <= 255 for byte in answer[2:-1]))
 
-    def test_places_are_told_by_judge_alone(self):
+    def test_places_are_told_by_judge_and_bodyjudge_alone(self):
         for call, handed in SAMPLES:
             answer = call(*handed)
             if answer[0] < 0:
-                self.assertEqual(answer[1:2], [0])
-                tells = call == judge and answer[0] == -6
-                self.assertEqual(len(answer), 4 if tells else 3, call)
+                self.assertEqual(answer[1:3], [0, TOLD_WITH.get((call, answer[0]), 0)], call)
 
 
 class NothingKept(unittest.TestCase):
