@@ -1,16 +1,20 @@
 """The calls, each answering one list: a number; how many bytes, and they; how many numbers, and they."""
 
+from beadbodies.growth import GREATEST_REACH, grown_body
 from beadbodies.meshes import GREATEST_TURN, MeshFault
 from beadbodies.meshes import first_odd_side, measures, put_together, read_mesh, text_of, turned_mesh
 from beadbodies.rays import GREATEST_LOOK, centre_of, lies_inside, marks_inside
-from beadbodies.regions import piece_count
-from beadbodies.solids import GREATEST_SIDE, Body, BodyFault, Grid, bytes_of, is_side, read_body
+from beadbodies.regions import piece_count, piece_numbers
+from beadbodies.solids import GREATEST_SIDE, OF_JUST_ONE, Body, BodyFault, Grid
+from beadbodies.solids import bytes_of, combined_body, is_same_grid, is_side, read_body
 
 MOST_BYTES = 16384
 GREATEST_PITCH = 8192
 
 OUT_OF_RANGE = -1
 TOO_LONG = -2
+NOT_THERE = -4
+NOT_OF_BODY = -5
 NONE_SUCH = -6
 UNFIT = -9
 
@@ -159,3 +163,44 @@ def bodysize(b):
         return refusal(NONE_SUCH)
     grid = body.grid
     return answer(0, [], [grid.wide, grid.deep, grid.high, sum(body.marks), piece_count(body)])
+
+
+def piece(x, y, z, b):
+    """The number of the piece that cell (x, y, z) is of."""
+    if len(b) > MOST_BYTES:
+        return refusal(TOO_LONG)
+    body = body_of(b)
+    if body is None:
+        return refusal(NONE_SUCH)
+    if not body.grid.has_cell(x, y, z):
+        return refusal(NOT_THERE)
+    if body.mark_at(x, y, z) == 0:
+        return refusal(NOT_OF_BODY)
+    return answer(piece_numbers(body)[body.grid.cell_number(x, y, z)], [], [])
+
+
+def bodyboth(how, b, d):
+    """The bytes of the cells of either body, of both, of the first alone or of just one."""
+    if len(b) > MOST_BYTES or len(d) > MOST_BYTES:
+        return refusal(TOO_LONG)
+    first = body_of(b)
+    second = body_of(d)
+    if first is None or second is None:
+        return refusal(NONE_SUCH)
+    if not is_same_grid(first.grid, second.grid):
+        return refusal(UNFIT)
+    if how > OF_JUST_ONE:
+        return refusal(OUT_OF_RANGE)
+    return telling(bytes_of(combined_body(first, second, how)))
+
+
+def grown(q, b):
+    """The bytes of the body grown by q."""
+    if len(b) > MOST_BYTES:
+        return refusal(TOO_LONG)
+    body = body_of(b)
+    if body is None:
+        return refusal(NONE_SUCH)
+    if q > GREATEST_REACH:
+        return refusal(OUT_OF_RANGE)
+    return telling(bytes_of(grown_body(body, q)))

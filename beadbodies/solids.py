@@ -1,10 +1,15 @@
-"""Grids of cells, bodies of cells, and the bytes of bodies."""
+"""Grids of cells, bodies of cells and their bytes, and two bodies taken together."""
 
 GREATEST_SIDE = 12
 
 MARK = (66, 68, 66, 49)
 # How many bytes stand in front of the bits: the mark, wide, deep and high.
 HEAD = 7
+
+OF_EITHER = 0
+OF_BOTH = 1
+OF_FIRST_ALONE = 2
+OF_JUST_ONE = 3
 
 WRONG_FRAME = 1
 WRONG_SIDE = 2
@@ -49,6 +54,12 @@ class Body:
         self.grid = grid
         self.marks = marks
 
+    def mark_at(self, x, y, z):
+        """The cell's mark; places outside of the grid aren't of the body."""
+        if not self.grid.has_cell(x, y, z):
+            return 0
+        return self.marks[self.grid.cell_number(x, y, z)]
+
 
 def is_side(number):
     """Whether a grid may be so wide, deep or high."""
@@ -88,3 +99,23 @@ def bytes_of(body):
     for number, mark in enumerate(body.marks):
         packed[number // 8] += mark << (number % 8)
     return list(MARK) + [body.grid.wide, body.grid.deep, body.grid.high] + packed
+
+
+def is_same_grid(grid, other):
+    return (grid.wide, grid.deep, grid.high) == (other.wide, other.deep, other.high)
+
+
+def combined_mark(first, second, how):
+    """The mark of a cell that has these marks in two bodies."""
+    if how == OF_EITHER:
+        return first | second
+    if how == OF_BOTH:
+        return first & second
+    if how == OF_FIRST_ALONE:
+        return first & (1 - second)
+    return first ^ second
+
+
+def combined_body(first, second, how):
+    """The body of two of the same grid; how is from OF_EITHER to OF_JUST_ONE."""
+    return Body(first.grid, [combined_mark(mark, other, how) for mark, other in zip(first.marks, second.marks)])

@@ -19,6 +19,8 @@ GREATEST = 18446744073709551615
 TOO_LONG = [-2, 0, 0]
 NONE_SUCH = [-6, 0, 0]
 OUT_OF_RANGE = [-1, 0, 0]
+NOT_THERE = [-4, 0, 0]
+NOT_OF_BODY = [-5, 0, 0]
 UNFIT = [-9, 0, 0]
 
 TEXTS_AT_FAULT = ["x", "v 1 2 3", "v 1 2 65536\n", "t 0 1 2\n", "v 1 2 3\n" * 65, "\n", "v 1 2 3\n" * 2048]
@@ -257,6 +259,17 @@ def joined(cells):
 
 def random_cells(chance, grid, share):
     return {cell for cell in all_cells(grid) if chance.random() < share}
+
+
+def near_places(cell, q):
+    """All places of the cell's layer, beyond the grid too, that are near by q."""
+    reach = range(-int(q ** 0.5) - 1, int(q ** 0.5) + 2)
+    return {(cell[0] + dx, cell[1] + dy, cell[2]) for dx in reach for dy in reach if dx ** 2 + dy ** 2 <= q}
+
+
+def grown_cells(grid, cells, q):
+    places = set().union(*[near_places(cell, q) for cell in cells])
+    return places & set(all_cells(grid))
 
 
 GRIDS = [(1, 1, 1), (12, 1, 1), (1, 12, 1), (1, 1, 12), (2, 3, 4), (4, 2, 3), (5, 5, 1), (3, 3, 3), (7, 1, 9), (8, 2, 1),

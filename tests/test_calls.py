@@ -2,7 +2,8 @@
 
 import unittest
 
-from beadbodies.bodies import bodyjudge, bodysize, both, cells, inside, judge, open_side, size, turned
+from beadbodies.bodies import (bodyboth, bodyjudge, bodysize, both, cells, grown, inside, judge, open_side, piece,
+                               size, turned)
 from tests.oracle import (BYTES_AT_FAULT, GREATEST, TETRAHEDRON, TEXTS_AT_FAULT, Guarded, all_cells, body_signs, box,
                           corner_lines, mesh_signs, mesh_text, signs)
 
@@ -33,6 +34,12 @@ def samples():
     for numbers in ((2, 2, 3, 4), (1, 1, 1, 1), (0, 1, 1, 1), (1, 13, 1, 1), (GREATEST,) * 4):
         found += [(cells, numbers + (text,)) for text in TEXTS]
     found += [(call, (b,)) for call in BODY_CALLS for b in BODIES]
+    for numbers in ((0, 0, 0), (1, 1, 1), (1, 0, 0), (2, 3, 4), (12, 0, 0), (GREATEST,) * 3):
+        found += [(piece, numbers + (b,)) for b in BODIES]
+    for how in (0, 1, 2, 3, 4, GREATEST):
+        found += [(bodyboth, (how, b, b)) for b in BODIES]
+        found += [(bodyboth, (how, b, d)) for b in BODIES[:6] for d in BODIES[:6]]
+    found += [(grown, (q, b)) for q in (0, 1, 5, 200, 201, GREATEST) for b in BODIES]
     return found
 
 
@@ -118,6 +125,7 @@ class NothingKept(unittest.TestCase):
 
     def test_one_list_may_be_handed_in_twice(self):
         self.assertEqual(both(BOX, BOX), both(list(BOX), list(BOX)))
+        self.assertEqual(bodyboth(0, ODD_BODY, ODD_BODY), bodyboth(0, list(ODD_BODY), list(ODD_BODY)))
 
 
 if __name__ == "__main__":
