@@ -1,10 +1,11 @@
 """The calls, each answering one list: a number; how many bytes, and they; how many numbers, and they."""
 
-from beadbodies.growth import GREATEST_REACH, grown_body
+from beadbodies.drawings import drawing_of
+from beadbodies.growth import GREATEST_REACH, grown_body, shrunk_body
 from beadbodies.meshes import GREATEST_TURN, MeshFault
 from beadbodies.meshes import first_odd_side, measures, put_together, read_mesh, text_of, turned_mesh
 from beadbodies.rays import GREATEST_LOOK, centre_of, lies_inside, marks_inside
-from beadbodies.regions import piece_count, piece_numbers
+from beadbodies.regions import filled_body, piece_count, piece_numbers
 from beadbodies.solids import GREATEST_SIDE, OF_JUST_ONE, Body, BodyFault, Grid
 from beadbodies.solids import bytes_of, combined_body, is_same_grid, is_side, read_body
 
@@ -204,3 +205,37 @@ def grown(q, b):
     if q > GREATEST_REACH:
         return refusal(OUT_OF_RANGE)
     return telling(bytes_of(grown_body(body, q)))
+
+
+def shrunk(q, b):
+    """The bytes of the body shrunk by q."""
+    if len(b) > MOST_BYTES:
+        return refusal(TOO_LONG)
+    body = body_of(b)
+    if body is None:
+        return refusal(NONE_SUCH)
+    if q > GREATEST_REACH:
+        return refusal(OUT_OF_RANGE)
+    return telling(bytes_of(shrunk_body(body, q)))
+
+
+def filled(b):
+    """The bytes of the body with its hollows filled."""
+    if len(b) > MOST_BYTES:
+        return refusal(TOO_LONG)
+    body = body_of(b)
+    if body is None:
+        return refusal(NONE_SUCH)
+    return telling(bytes_of(filled_body(body)))
+
+
+def draw(z, b):
+    """Layer z's drawing."""
+    if len(b) > MOST_BYTES:
+        return refusal(TOO_LONG)
+    body = body_of(b)
+    if body is None:
+        return refusal(NONE_SUCH)
+    if z >= body.grid.high:
+        return refusal(NOT_THERE)
+    return telling(drawing_of(body, z))

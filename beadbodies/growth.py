@@ -38,3 +38,9 @@ def near_marked(body, q, mark):
 def grown_body(body, q):
     """The cells that a cell of the body is near by q."""
     return Body(body.grid, [1 if near else 0 for near in near_marked(body, q, 1)])
+
+
+def shrunk_body(body, q):
+    """The cells such that all places near them by q are of the body."""
+    # Of the places beyond the grid those next to it are the nearest to any cell, so no others need be asked.
+    return Body(body.grid, [0 if near else 1 for near in near_marked(body, q, 0)])

@@ -1,4 +1,6 @@
-"""What hangs together: cells that steps to one of six neighbours join, and the pieces of bodies."""
+"""What hangs together by steps to one of six neighbours: the pieces of bodies, and their hollows filled."""
+
+from beadbodies.solids import Body
 
 STEPS = ((1, 0, 0), (-1, 0, 0), (0, 1, 0), (0, -1, 0), (0, 0, 1), (0, 0, -1))
 
@@ -42,3 +44,16 @@ def piece_numbers(body):
 
 def piece_count(body):
     return max(list(piece_numbers(body).values()), default=-1) + 1
+
+
+def is_at_border(grid, number):
+    place = grid.cell_place(number)
+    return 0 in place or place[0] == grid.wide - 1 or place[1] == grid.deep - 1 or place[2] == grid.high - 1
+
+
+def filled_body(body):
+    """The body and all cells from which no way round it leads to the grid's border."""
+    numbers = list(range(body.grid.cell_count()))
+    border = [number for number in numbers if is_at_border(body.grid, number)]
+    outside = regions_from(body.grid, [1 - mark for mark in body.marks], border)
+    return Body(body.grid, [0 if number in outside else 1 for number in numbers])

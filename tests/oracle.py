@@ -272,6 +272,22 @@ def grown_cells(grid, cells, q):
     return places & set(all_cells(grid))
 
 
+def shrunk_cells(cells, q):
+    return {cell for cell in cells if near_places(cell, q) <= cells}
+
+
+def filled_cells(grid, cells):
+    """The body and those pieces of the rest that have no cell at the border."""
+    border = {cell for cell in all_cells(grid) if any(n in (0, side - 1) for n, side in zip(cell, grid))}
+    hollows = [piece for piece in joined(set(all_cells(grid)) - cells) if not piece & border]
+    return cells.union(*hollows)
+
+
+def drawing(grid, cells, z):
+    lines = ["".join("#" if (x, y, z) in cells else "." for x in range(grid[0])) for y in range(grid[1])]
+    return signs("".join(line + "\n" for line in lines))
+
+
 GRIDS = [(1, 1, 1), (12, 1, 1), (1, 12, 1), (1, 1, 12), (2, 3, 4), (4, 2, 3), (5, 5, 1), (3, 3, 3), (7, 1, 9), (8, 2, 1),
          (5, 6, 7), (12, 11, 10), (12, 12, 12)]
 

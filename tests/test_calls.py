@@ -2,13 +2,13 @@
 
 import unittest
 
-from beadbodies.bodies import (bodyboth, bodyjudge, bodysize, both, cells, grown, inside, judge, open_side, piece,
-                               size, turned)
+from beadbodies.bodies import (bodyboth, bodyjudge, bodysize, both, cells, draw, filled, grown, inside, judge,
+                               open_side, piece, shrunk, size, turned)
 from tests.oracle import (BYTES_AT_FAULT, GREATEST, TETRAHEDRON, TEXTS_AT_FAULT, Guarded, all_cells, body_signs, box,
                           corner_lines, mesh_signs, mesh_text, signs)
 
 TEXT_CALLS = (judge, size, open_side)
-BODY_CALLS = (bodyjudge, bodysize)
+BODY_CALLS = (bodyjudge, bodysize, filled)
 # How many numbers a refusal tells, of the calls where it tells some.
 TOLD_WITH = {(judge, -6): 1, (bodyjudge, -6): 2}
 
@@ -39,7 +39,8 @@ def samples():
     for how in (0, 1, 2, 3, 4, GREATEST):
         found += [(bodyboth, (how, b, b)) for b in BODIES]
         found += [(bodyboth, (how, b, d)) for b in BODIES[:6] for d in BODIES[:6]]
-    found += [(grown, (q, b)) for q in (0, 1, 5, 200, 201, GREATEST) for b in BODIES]
+    found += [(call, (q, b)) for call in (grown, shrunk) for q in (0, 1, 5, 200, 201, GREATEST) for b in BODIES]
+    found += [(draw, (z, b)) for z in (0, 1, 4, 11, 12, GREATEST) for b in BODIES]
     return found
 
 
