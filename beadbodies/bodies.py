@@ -1,6 +1,6 @@
 """The calls, each answering one list: a number; how many bytes, and they; how many numbers, and they."""
 
-from beadbodies.drawings import drawing_of
+from beadbodies.drawings import DrawingFault, drawing_of, redrawn_body
 from beadbodies.growth import GREATEST_REACH, grown_body, shrunk_body
 from beadbodies.meshes import GREATEST_TURN, MeshFault
 from beadbodies.meshes import first_odd_side, measures, put_together, read_mesh, text_of, turned_mesh
@@ -17,6 +17,7 @@ TOO_LONG = -2
 NOT_THERE = -4
 NOT_OF_BODY = -5
 NONE_SUCH = -6
+DRAWN_WRONG = -8
 UNFIT = -9
 
 
@@ -239,3 +240,19 @@ def draw(z, b):
     if z >= body.grid.high:
         return refusal(NOT_THERE)
     return telling(drawing_of(body, z))
+
+
+def read(z, b, t):
+    """The bytes of the body with layer z as t draws it, or the place where t is at fault."""
+    if len(b) > MOST_BYTES or len(t) > MOST_BYTES:
+        return refusal(TOO_LONG)
+    body = body_of(b)
+    if body is None:
+        return refusal(NONE_SUCH)
+    if z >= body.grid.high:
+        return refusal(NOT_THERE)
+    try:
+        redrawn = redrawn_body(body, z, t)
+    except DrawingFault as fault:
+        return answer(DRAWN_WRONG, [], [fault.place])
+    return telling(bytes_of(redrawn))

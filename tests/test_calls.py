@@ -1,16 +1,21 @@
 """What holds of every call: the refusals' order, the answers' form, nothing changed and nothing kept."""
 
+import inspect
 import unittest
 
 from beadbodies.bodies import (bodyboth, bodyjudge, bodysize, both, cells, draw, filled, grown, inside, judge,
-                               open_side, piece, shrunk, size, turned)
+                               open_side, piece, read, shrunk, size, turned)
 from tests.oracle import (BYTES_AT_FAULT, GREATEST, TETRAHEDRON, TEXTS_AT_FAULT, Guarded, all_cells, body_signs, box,
                           corner_lines, mesh_signs, mesh_text, signs)
 
 TEXT_CALLS = (judge, size, open_side)
 BODY_CALLS = (bodyjudge, bodysize, filled)
 # How many numbers a refusal tells, of the calls where it tells some.
-TOLD_WITH = {(judge, -6): 1, (bodyjudge, -6): 2}
+TOLD_WITH = {(judge, -6): 1, (bodyjudge, -6): 2, (read, -8): 1}
+
+INTERFACE = {judge: "t", size: "t", open_side: "t", both: "t s", turned: "k t", inside: "c x y z look t",
+             cells: "c wide deep high t", bodyjudge: "b", bodysize: "b", piece: "x y z b", bodyboth: "how b d",
+             grown: "q b", shrunk: "q b", filled: "b", draw: "z b", read: "z b t"}
 
 BOX = mesh_signs(box((0, 0, 0), (9, 9, 9)))
 HOLED = corner_lines(4) + "t 1 2 3\n"
@@ -22,6 +27,8 @@ FEW_TEXTS = TEXTS[:6] + TEXTS[-2:]
 ODD_BODY = body_signs((3, 4, 5), {cell for cell in all_cells((3, 4, 5)) if sum(cell) % 3 > 0})
 BODIES = [body_signs((1, 1, 1), set()), body_signs((2, 2, 2), {(0, 0, 0), (1, 1, 1)}), ODD_BODY,
           body_signs((12, 12, 12), set(all_cells((12, 12, 12)))), [0] * 16385] + BYTES_AT_FAULT
+DRAWINGS = [signs(text) for text in (".\n", "#\n", "#.\n.#\n", "##.\n" * 4, "##.\n" * 3, "", ("#" * 12 + "\n") * 12,
+                                     "." * 16384, "." * 16385)]
 
 
 def samples():
@@ -40,7 +47,9 @@ def samples():
         found += [(bodyboth, (how, b, b)) for b in BODIES]
         found += [(bodyboth, (how, b, d)) for b in BODIES[:6] for d in BODIES[:6]]
     found += [(call, (q, b)) for call in (grown, shrunk) for q in (0, 1, 5, 200, 201, GREATEST) for b in BODIES]
-    found += [(draw, (z, b)) for z in (0, 1, 4, 11, 12, GREATEST) for b in BODIES]
+    for z in (0, 1, 4, 11, 12, GREATEST):
+        found += [(draw, (z, b)) for b in BODIES]
+        found += [(read, (z, b, text)) for b in BODIES for text in DRAWINGS]
     return found
 
 
@@ -74,6 +83,16 @@ class TooLong(unittest.TestCase):
             self.assertEqual(judge(text), [-6, 0, 1, len(longest)])
 
 
+class Interface(unittest.TestCase):
+    def test_names_and_arguments(self):
+        for call, names in INTERFACE.items():
+            self.assertEqual(list(inspect.signature(call).parameters), names.split(), call)
+            self.assertEqual(call.__module__, "beadbodies.bodies")
+
+    def test_every_call_is_among_the_samples(self):
+        self.assertEqual({call for call, handed in SAMPLES}, set(INTERFACE))
+
+
 class Answers(unittest.TestCase):
     def test_lists_of_plain_whole_numbers(self):
         for call, handed in SAMPLES:
@@ -90,7 +109,7 @@ class Answers(unittest.TestCase):
                 self.assertEqual((answer[0], answer[-1]), (told, 0))
                 self.assertTrue(all(0 <= byte <= 255 for byte in answer[2:-1]))
 
-    def test_places_are_told_by_judge_and_bodyjudge_alone(self):
+    def test_places_are_told_by_judge_bodyjudge_and_read_alone(self):
         for call, handed in SAMPLES:
             answer = call(*handed)
             if answer[0] < 0:
@@ -127,6 +146,7 @@ class NothingKept(unittest.TestCase):
     def test_one_list_may_be_handed_in_twice(self):
         self.assertEqual(both(BOX, BOX), both(list(BOX), list(BOX)))
         self.assertEqual(bodyboth(0, ODD_BODY, ODD_BODY), bodyboth(0, list(ODD_BODY), list(ODD_BODY)))
+        self.assertEqual(read(0, ODD_BODY, ODD_BODY), [-8, 0, 1, 0])
 
 
 if __name__ == "__main__":

@@ -34,9 +34,10 @@ class Grown(unittest.TestCase):
 
     def test_none_and_all(self):
         for grid in GRIDS:
+            every = set(all_cells(grid))
             for q in (0, 1, 200):
                 self.expect(grid, set(), q)
-                self.assertEqual(told_body(grown(q, body_signs(grid, set(all_cells(grid))))), (grid, set(all_cells(grid))))
+                self.assertEqual(told_body(grown(q, body_signs(grid, every))), (grid, every))
 
     def test_one_cell_and_one_row(self):
         for grid in ((1, 1, 1), (12, 1, 1), (1, 12, 1), (1, 1, 12)):
